@@ -1,0 +1,1 @@
+"""Rooms that are full: processes joined by channels with little room."""
