@@ -24,7 +24,8 @@ def channels_waited_to_write(net):
 def grow(net):
     """Give the least of the rooms that are waited for room for one more; say which channel's."""
     number = min(channels_waited_to_write(net), key=lambda c: (net.channel(c).room, c))
-    net.channel(number).room += 1
+    channel = net.channel(number)
+    channel.room += 1
     net.grown += 1
     return number
 

@@ -52,6 +52,13 @@ def top_names(file):
     return names + [node.targets[0].id for node in body if isinstance(node, ast.Assign)]
 
 
+def given_through(target):
+    """What stands at the beginning of a.b[c].d, through which a value is given."""
+    while isinstance(target, (ast.Attribute, ast.Subscript)):
+        target = target.value
+    return target
+
+
 class Form(unittest.TestCase):
     def test_only_python_files_lie_in_the_package(self):
         for path in PACKAGE.iterdir():
@@ -104,6 +111,16 @@ class Form(unittest.TestCase):
             for node in nodes_of(file, ast.Name):
                 if hasattr(builtins, node.id):
                     self.assertIn(node.id, BUILTINS)
+
+    def test_values_are_given_through_local_names(self):
+        for file in FILES:
+            imported = [alias.name for node in nodes_of(file, ast.ImportFrom) for alias in node.names]
+            for node in nodes_of(file, ast.Attribute, ast.Subscript):
+                if isinstance(node.ctx, ast.Store):
+                    start = given_through(node)
+                    where = f"{file.name} row {node.lineno}"
+                    self.assertIsInstance(start, ast.Name, where)
+                    self.assertNotIn(start.id, top_names(file) + imported, where)
 
     def test_methods_and_values_of_objects(self):
         methods, values = set(), set()
