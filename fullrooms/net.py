@@ -9,6 +9,7 @@ MOST_PROCESSES = 6
 MOST_RUN = 200
 MOST_ROUND = 20
 MOST_SETTLE = 200
+MOST_WIDENED = 1000
 
 
 class Calls:
@@ -99,6 +100,55 @@ def call_grow(net, calls):
     return [number, net.channel(number).room]
 
 
+def call_widen(net, calls):
+    number = calls.number()
+    room = calls.number()
+    if not net.has_channel(number):
+        return [-1]
+    channel = net.channel(number)
+    if not channel.room <= room <= MOST_WIDENED:
+        return [-2]
+    channel.room = room
+    return [room]
+
+
+def call_process(net, calls):
+    number = calls.number()
+    if not net.has_process(number):
+        return [-1]
+    process = net.process(number)
+    return [how_stands(net, process), waited_channel(net, process), process.place] + process.registers
+
+
+def call_said(net, calls):
+    number = calls.number()
+    if not net.has_process(number):
+        return [-1]
+    said = net.process(number).said
+    return [len(said)] + said
+
+
+def call_channel(net, calls):
+    number = calls.number()
+    if not net.has_channel(number):
+        return [-1]
+    channel = net.channel(number)
+    unread = channel.on_it()
+    return [channel.room, len(unread)] + unread
+
+
+def call_wrote(net, calls):
+    number = calls.number()
+    if not net.has_channel(number):
+        return [-1]
+    written = net.channel(number).written
+    return [len(written)] + written
+
+
+def call_counts(net, calls):
+    return [net.steps, net.grown]
+
+
 # By the call's number.
 CALLS = (
     call_net,
@@ -108,6 +158,12 @@ CALLS = (
     call_settle,
     call_stuck,
     call_grow,
+    call_widen,
+    call_process,
+    call_said,
+    call_channel,
+    call_wrote,
+    call_counts,
 )
 
 

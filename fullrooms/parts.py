@@ -26,6 +26,9 @@ class Channel:
     def put(self, number):
         self.written.append(number)
 
+    def on_it(self):
+        return self.written[self.taken:]
+
 
 class Process:
     """Four registers and a program; place is the number of the instruction that is next."""

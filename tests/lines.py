@@ -35,6 +35,37 @@ def settle(n):
 
 STUCK = [5]
 GROW = [6]
+COUNTS = [12]
+
+
+def widen(c, room):
+    return [7, c, room]
+
+
+def process(p):
+    return [8, p]
+
+
+def said(p):
+    return [9, p]
+
+
+def channel(c):
+    return [10, c]
+
+
+def wrote(c):
+    return [11, c]
+
+
+def all_there_is(n, how_many_channels):
+    """The calls that tell all of a net with n processes and so many channels."""
+    calls = [STUCK, COUNTS]
+    for p in range(1, n + 1):
+        calls += [process(p), said(p)]
+    for c in range(1, how_many_channels + 1):
+        calls += [channel(c), wrote(c)]
+    return calls
 
 
 def get(x, c):
@@ -94,7 +125,17 @@ def split(told):
 
 def ask(*calls):
     """The answers to these calls, one list for each."""
-    return split(answers([number for call in calls for number in call]))
+    numbers = [number for call in calls for number in call]
+    told = split(answers(numbers))
+    # More than this is never handed in, so a test that does so would show nothing.
+    if len(told) > 60 or len(numbers) > 6500:
+        raise ValueError("the line is too long")
+    return told
+
+
+def behind(laid, *calls):
+    """The answers to the calls alone, asked behind what was laid before them."""
+    return ask(*laid, *calls)[len(laid):]
 
 
 def last(*calls):

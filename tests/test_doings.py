@@ -1,11 +1,8 @@
 """The calls run, round, settle, stuck and grow (points 2 and 4)."""
 
-import random
 import unittest
 
-from lines import (
-    GROW, STUCK, ask, assign, get, if_zero, jump, last, net, plus, program, put, rounds, run, say, settle,
-)
+from lines import GROW, STUCK, ask, behind, get, jump, last, net, program, put, rounds, run, say, settle
 
 HIGHEST = 4294967295
 FULL = [net(1, (1, 1, 1)), program(1, put(0, 1), put(0, 1))]
@@ -115,26 +112,23 @@ class Grow(unittest.TestCase):
         laid += [program(p, put(0, p), jump(1)) for p in range(1, n + 1)]
         return laid + [rounds(20)] * 6
 
-    def asked(self, laid, *calls):
-        return ask(*laid, *calls)[len(laid):]
-
     def test_which_channel_and_its_room(self):
-        self.assertEqual(self.asked(FULL + [run(1, 9)], GROW, STUCK, run(1, 9), STUCK), [[1, 2], [0], [1, 1, 0], [1]])
+        self.assertEqual(behind(FULL + [run(1, 9)], GROW, STUCK, run(1, 9), STUCK), [[1, 2], [0], [1, 1, 0], [1]])
 
     def test_the_least_room(self):
-        self.assertEqual(self.asked(self.waiting(5, 3, 4), STUCK, GROW), [[3], [2, 4]])
-        self.assertEqual(self.asked(self.waiting(5, 4, 3), GROW), [[3, 4]])
-        self.assertEqual(self.asked(self.waiting(2, 4, 3), GROW), [[1, 3]])
+        self.assertEqual(behind(self.waiting(5, 3, 4), STUCK, GROW), [[3], [2, 4]])
+        self.assertEqual(behind(self.waiting(5, 4, 3), GROW), [[3, 4]])
+        self.assertEqual(behind(self.waiting(2, 4, 3), GROW), [[1, 3]])
 
     def test_of_several_the_first(self):
-        self.assertEqual(self.asked(self.waiting(3, 2, 2), GROW), [[2, 3]])
-        self.assertEqual(self.asked(self.waiting(2, 2, 2), GROW), [[1, 3]])
+        self.assertEqual(behind(self.waiting(3, 2, 2), GROW), [[2, 3]])
+        self.assertEqual(behind(self.waiting(2, 2, 2), GROW), [[1, 3]])
 
     def test_the_first_channel_not_the_first_process(self):
         laid = [
             net(2, (2, 2, 1), (1, 1, 1)), program(1, put(0, 2), jump(1)), program(2, put(0, 1), jump(1)), rounds(9),
         ]
-        self.assertEqual(self.asked(laid, GROW), [[1, 2]])
+        self.assertEqual(behind(laid, GROW), [[1, 2]])
 
     def test_only_channels_that_are_waited_for_to_write(self):
         laid = [
@@ -142,23 +136,23 @@ class Grow(unittest.TestCase):
             program(1, put(0, 2)), program(2, put(0, 3), jump(1)), program(3, get(0, 3), get(0, 3)),
             run(1, 9), run(2, 9), run(3, 9), run(2, 9),
         ]
-        self.assertEqual(self.asked(laid, STUCK, GROW, GROW), [[3], [3, 3], [-5]])
+        self.assertEqual(behind(laid, STUCK, GROW, GROW), [[3], [3, 3], [-5]])
 
     def test_a_channel_that_is_waited_for_to_read_does_not_grow(self):
         laid = [
             net(2, (2, 1, 1), (1, 2, 1), (2, 1, 3)),
             program(1, get(0, 1)), program(2, put(0, 3), jump(1)), run(1, 9), run(2, 9),
         ]
-        self.assertEqual(self.asked(laid, STUCK, GROW), [[3], [3, 4]])
+        self.assertEqual(behind(laid, STUCK, GROW), [[3], [3, 4]])
 
     def test_again_and_again(self):
         again = [GROW, rounds(20)] * 3
-        told = self.asked(self.waiting(1, 2), *again)
+        told = behind(self.waiting(1, 2), *again)
         self.assertEqual(told[::2], [[1, 2], [1, 3], [2, 3]])
 
     def test_above_50_too(self):
         laid = [net(1, (1, 1, 50)), program(1, put(0, 1), jump(1)), run(1, 200)]
-        self.assertEqual(self.asked(laid, GROW, run(1, 9), GROW), [[1, 51], [2, 3, 1], [1, 52]])
+        self.assertEqual(behind(laid, GROW, run(1, 9), GROW), [[1, 51], [2, 3, 1], [1, 52]])
 
     def test_refused_unless_they_stand_at_3(self):
         self.assertEqual(last(GROW), [-5])
@@ -168,11 +162,11 @@ class Grow(unittest.TestCase):
 
     def test_a_refused_grow_changes_nothing(self):
         laid = [program(1, put(0, 1), put(0, 1)), program(2, say(0)), run(1, 9), GROW]
-        self.assertEqual(self.asked(laid, run(1, 9), run(2, 9), GROW, run(1, 9)),
+        self.assertEqual(behind(laid, run(1, 9), run(2, 9), GROW, run(1, 9)),
                          [[0, 3, 1], [1, 1, 0], [1, 2], [1, 1, 0]])
 
     def test_growing_is_no_step(self):
-        self.assertEqual(self.asked(FULL + [run(1, 9)], GROW, settle(9)), [[1, 2], [1, 0, 1]])
+        self.assertEqual(behind(FULL + [run(1, 9)], GROW, settle(9)), [[1, 2], [1, 0, 1]])
 
 
 class Settle(unittest.TestCase):
@@ -232,45 +226,6 @@ class Settle(unittest.TestCase):
 
     def test_a_refused_settle_does_nothing(self):
         self.assertEqual(ask(program(1, say(0)), settle(201), program(2), run(1, 0)), [[1], [-2], [0], [0, 0, 0]])
-
-
-class SameHoweverItGoes(unittest.TestCase):
-    """Whoever is let go first, as many steps are done, and all stand the same way in the end."""
-
-    def laid(self, chance):
-        n = chance.randint(2, 5)
-        ends = [(chance.randint(1, n), chance.randint(1, n), chance.randint(1, 3)) for c in range(8)]
-        calls = [net(n, *ends)]
-        for p in range(1, n + 1):
-            doings = [assign(0, 1), plus(1, 0), say(1)]
-            doings += [put(1, c) for c, end in enumerate(ends, 1) if end[0] == p]
-            doings += [get(1, c) for c, end in enumerate(ends, 1) if end[1] == p]
-            length = chance.randint(1, 12)
-            # Jumps go forward alone, so that each program comes to rest.
-            lines = [
-                if_zero(1, chance.randint(at + 1, length + 1)) if chance.random() < 0.2 else chance.choice(doings)
-                for at in range(1, length + 1)
-            ]
-            calls.append(program(p, *lines))
-        return n, calls
-
-    def outcome(self, n, calls, going):
-        told = ask(*calls, *going, *[run(p, 0) for p in range(1, n + 1)], STUCK)
-        steps = sum(answer[0] for answer in told[len(calls):len(calls) + len(going)])
-        return steps, told[-n - 1:]
-
-    def test_any_order(self):
-        chance = random.Random(91)
-        seen = set()
-        for case in range(300):
-            n, calls = self.laid(chance)
-            outcomes = []
-            for order in range(4):
-                going = [run(chance.randint(1, n), chance.randint(1, 3)) for turn in range(15)]
-                outcomes.append(self.outcome(n, calls, going + [rounds(chance.randint(15, 20))] * 25))
-            self.assertEqual(outcomes, outcomes[:1] * 4)
-            seen.add(outcomes[0][1][-1][0])
-        self.assertEqual(seen, {1, 2, 3})
 
 
 if __name__ == "__main__":
